@@ -1,0 +1,1 @@
+"""Tidefold: what has to be kept of rows that can change no more."""
