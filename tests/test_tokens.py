@@ -90,6 +90,11 @@ class Tokens(unittest.TestCase):
         ]
         self.assertEqual(tokens("ab12c-3-4 5"), expected)
 
+    def test_each_letter_behind_a_number(self):
+        for letter in "abcdefghijklmnopqrstuvwxyz":
+            expected = [("number", -5, 0), ("word", letter, 2), ("number", 5, 3)]
+            self.assertEqual(tokens(f"-5{letter}5"), expected)
+
     def test_a_word_may_have_more_than_8_letters(self):
         self.assertEqual(tokens("abcdefghi"), [("word", "abcdefghi", 0)])
 
