@@ -4,6 +4,8 @@ PAIRS = ("both", "less", "without", "near")
 STAGES = ("sift", "only", "rekey", "scale", "later")
 # The operators with one input. In a text they stand where stages stand.
 SINGLES = ("once", "windows", "sittings")
+# The operators that keep rows.
+KEEPING = ("once", "less", "windows", "sittings", "near", "without")
 
 
 def inputs_of(plan):

@@ -1,0 +1,63 @@
+"""The names of the interface and their arguments."""
+
+import ast
+import importlib
+import inspect
+import unittest
+from pathlib import Path
+
+PACKAGE = Path(__file__).resolve().parent.parent / "tidefold"
+FUNCTIONS = {
+    "tokens": ["tokens(text)"],
+    "parsing": ["parse_plan(text)"],
+    "printing": ["print_plan(plan)", "sources(plan)"],
+    "bags": [
+        "changes_of(pairs)",
+        "added(bag, changes)",
+        "between(before, after)",
+        "final(bag, mark)",
+        "not_final(bag, mark)",
+        "count_of(bag, row)",
+    ],
+    "operators": [
+        "staged(stage, changes)",
+        "once(bag)",
+        "windows(bag, size, slide, aggregate)",
+        "sittings(bag, gap, aggregate)",
+        "near(left, right, before, after, combination)",
+        "without(left, right)",
+        "less(left, right)",
+        "window_starts(time, size, slide)",
+    ],
+    "meaning": ["result(plan, tables)"],
+    "shows": ["narrowed(show, stage)", "shown(show, changes)", "shows(plan)"],
+    "classes": ["is_shown(show, value)"],
+}
+CLASSES = {"errors": ["FlowError", "PlanError", "NoSuchSource", "LateRow", "NotThere", "MarkGoesBack"]}
+
+
+def defined_in(name, kind):
+    tree = ast.parse((PACKAGE / f"{name}.py").read_text("utf-8"))
+    return [node.name for node in tree.body if isinstance(node, kind)]
+
+
+class Interface(unittest.TestCase):
+    def test_functions_are_defined_in_their_files(self):
+        for name, functions in FUNCTIONS.items():
+            module = importlib.import_module(f"tidefold.{name}")
+            for written in functions:
+                word = written.partition("(")[0]
+                self.assertIn(word, defined_in(name, ast.FunctionDef))
+                self.assertEqual(f"{word}{inspect.signature(getattr(module, word))}", written)
+
+    def test_classes_are_defined_in_their_files(self):
+        for name, classes in CLASSES.items():
+            for word in classes:
+                self.assertIn(word, defined_in(name, ast.ClassDef))
+
+    def test_the_show_of_no_stages_is_a_value(self):
+        self.assertEqual(importlib.import_module("tidefold.shows").ALL, (None, None, None, (), 1, None))
+
+
+if __name__ == "__main__":
+    unittest.main()
