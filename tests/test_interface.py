@@ -31,7 +31,31 @@ FUNCTIONS = {
     ],
     "meaning": ["result(plan, tables)"],
     "shows": ["narrowed(show, stage)", "shown(show, changes)", "shows(plan)"],
-    "classes": ["is_shown(show, value)"],
+    "classes": [
+        "is_shown(show, value)",
+        "shows_all(show)",
+        "class_above(show, value)",
+        "class_below(show, value)",
+        "count_limit(show)",
+        "token(show)",
+    ],
+    "marks": [
+        "windows_mark(mark, size, slide)",
+        "sittings_mark(bag, mark, gap)",
+        "near_mark(left, right, left_mark, right_mark, before, after)",
+        "without_mark(left, left_mark, right_mark)",
+        "plan_mark(plan, tables, marks)",
+    ],
+    "kept": [
+        "keep_windows(bag, mark, size, slide, aggregate, show)",
+        "keep_sittings(bag, mark, gap, aggregate, show)",
+        "keep_once(bag, mark, show)",
+    ],
+    "kept_pairs": [
+        "keep_near(left, right, left_mark, right_mark, before, after, combination, show)",
+        "keep_without(left, right, left_mark, right_mark, show)",
+        "keep_less(left, right, left_mark, right_mark, show)",
+    ],
 }
 CLASSES = {"errors": ["FlowError", "PlanError", "NoSuchSource", "LateRow", "NotThere", "MarkGoesBack"]}
 

@@ -10,6 +10,7 @@ from textwrap import indent
 
 from language_code import Package, package_in
 from language_rules import RULES, faults
+from tidefold.marks import plan_mark
 from tidefold.meaning import result
 from tidefold.parsing import parse_plan
 from tidefold.printing import print_plan, sources
@@ -237,13 +238,15 @@ class TheSameOnEachRun(unittest.TestCase):
     def test_the_order_of_sets_and_dicts_makes_no_difference(self):
         lines = """
 from drawn import drawings
+from tidefold.marks import plan_mark
 from tidefold.meaning import result
 from tidefold.printing import print_plan, sources
 from tidefold.shows import shows
 for drawing in drawings(100, 1):
     plan = drawing.plan(16, 8)
     tables = {name: drawing.bag(6) for name in ("a", "b", "c")}
-    print(print_plan(plan), sources(plan), shows(plan), result(plan, tables))
+    marks = {name: drawing.number(-3, 9) for name in tables}
+    print(print_plan(plan), sources(plan), shows(plan), result(plan, tables), plan_mark(plan, tables, marks))
 """
         told = {}
         for seed in ("0", "1", "2"):
@@ -267,6 +270,7 @@ for drawing in drawings(100, 1):
                 tables = {name: [((1, "x", 2), 3)] for name in sources(plan)}
                 self.assertIsInstance(result(plan, tables), list)
                 self.assertIsInstance(shows(plan), list)
+                self.assertIsInstance(plan_mark(plan, tables, {name: 5 for name in tables}), int)
             finally:
                 sys.setrecursionlimit(limit)
 

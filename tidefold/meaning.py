@@ -9,10 +9,14 @@ def result(plan, tables):
     """Return the result of a plan for the bags of its sources, a dict from names."""
     if plan[0] == "source":
         return list(tables[plan[1]])
-    found = [result(below, tables) for below in inputs_of(plan)]
+    return result_of(plan, [result(below, tables) for below in inputs_of(plan)])
+
+
+def result_of(plan, bags):
+    """Return the result of the outermost operator or stage of a plan for the bags of its inputs."""
     if plan[0] in PAIRS:
-        return result_of_pair(plan, found[0], found[1])
-    return result_of_single(plan, found[0])
+        return result_of_pair(plan, bags[0], bags[1])
+    return result_of_single(plan, bags[0])
 
 
 def result_of_single(plan, bag):

@@ -64,9 +64,12 @@ def windows(bag, size, slide, aggregate):
 
 def window_starts(time, size, slide):
     """Return the first times of the windows that contain a time, ascending."""
-    # The least multiple of the slide whose window does not end before the time.
-    first = -((size - 1 - time) // slide) * slide
-    return list(range(first, time + 1, slide))
+    return list(range(first_open(time, size, slide), time + 1, slide))
+
+
+def first_open(time, size, slide):
+    """Return the first time of the first window that does not end before a time."""
+    return -((size - 1 - time) // slide) * slide
 
 
 def aggregated(rows, aggregate):

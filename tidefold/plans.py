@@ -27,3 +27,15 @@ def with_levels(plan):
         for below in inputs_of(inner):
             waiting.append((below, level + 1))
     return found
+
+
+def steps_of(plan):
+    """Return all plans within a plan, inputs before their operator, each with the places of its inputs here."""
+    found = []
+    places = []
+    for below in inputs_of(plan):
+        moved = len(found)
+        for inner, inputs in steps_of(below):
+            found.append((inner, [place + moved for place in inputs]))
+        places.append(len(found) - 1)
+    return found + [(plan, places)]

@@ -3,7 +3,7 @@
 from tidefold.bags import changes_of
 from tidefold.classes import is_shown
 from tidefold.operators import satisfies
-from tidefold.plans import KEEPING, inputs_of
+from tidefold.plans import KEEPING, inputs_of, steps_of
 
 # The show of no stages: (keys, low, high, holes, factor, name).
 ALL = (None, None, None, (), 1, None)
@@ -96,8 +96,17 @@ def shown(show, changes):
 
 def shows_row(show, row):
     """Return whether a show, which is not None, shows a row."""
-    keys = show[0]
-    return (keys is None or row[1] in keys) and is_shown(show, row[2])
+    return shows_key(show, row) and is_shown(show, row[2])
+
+
+def shows_key(show, row):
+    """Return whether a show, which is not None, shows the key of a row."""
+    return show[0] is None or row[1] in show[0]
+
+
+def with_shown_keys(show, changes):
+    """Return those of the changes whose keys a show, which is not None, shows."""
+    return [(row, count) for row, count in changes if shows_key(show, row)]
 
 
 def as_shown(show, row):
@@ -110,6 +119,16 @@ def as_shown(show, row):
 def shows(plan):
     """Return the shows of all operators of a plan that keep rows, inputs before their operator."""
     return shows_within(plan, ())
+
+
+def steps_with_shows(plan):
+    """Return the steps of a plan as (plan, places of its inputs, show), the show None if it keeps no rows."""
+    waiting = shows(plan)[::-1]
+    found = []
+    for inner, places in steps_of(plan):
+        show = waiting.pop() if inner[0] in KEEPING else None
+        found.append((inner, places, show))
+    return found
 
 
 def shows_within(plan, above):
