@@ -125,3 +125,35 @@ def great_bag(drawing, mark, reach, bounds):
         time = mark + random.randint(-drawing.pick(3, reach), drawing.pick(-1, 5))
         found[(time, drawing.pick("a", "a", "b"), great_value(drawing, bounds))] = random.randint(1, 400)
     return bag_by_counting(list(found.items()))
+
+
+def bent(drawing, bag, mark):
+    """Return a bag with the same rows from the mark on, of which a few of the others differ a little."""
+    counts = dict(bag)
+    past = [row for row, _ in bag if row[0] < mark]
+    for _ in range(drawing.random.randint(1, 2)):
+        if past and drawing.random.random() < 0.7:
+            row = drawing.pick(*past)
+            many = counts.pop(row, 0)
+            time, key, value = row
+            row = drawing.pick((time, key, value), (time - 1, key, value), (time, key, value + 1), (time, key, -value))
+            many += drawing.pick(-1, 0, 0, 1)
+        else:
+            row, many = drawing.row_near(mark, 9, -1), 1
+        if many > 0:
+            counts[row] = many
+    return sorted(counts.items())
+
+
+def another_past(drawing, bag, mark, kept):
+    """Return a bag with the same rows from the mark on: bent, drawn, or what is kept of the bag."""
+    late = [pair for pair in bag if pair[0][0] >= mark]
+    kind = drawing.random.random()
+    if kind < 0.5:
+        return bent(drawing, bag, mark)
+    if kind < 0.7:
+        return [pair for pair in drawing.bag_near(mark, 6, 9, -1)] + late
+    if kind < 0.75:
+        return list(bag)
+    past = [pair for pair in kept if pair[0][0] < mark]
+    return past + late

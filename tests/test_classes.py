@@ -141,13 +141,11 @@ class CountLimit(unittest.TestCase):
                 continue
             limit = count_limit(view.show)
             key = next(key for key in ("a", "ab", "b", "zz", "aa") if view.shows_key(key))
+            rows = [[((0, key, many), 1)] if many else [] for many in range(31)]
             told = []
             for many in range(16):
-                before = [((0, key, many), 1)] if many else []
-                told.append([
-                    shown_by_counting(view.stages, differences(before, [((0, key, many + more), 1)] if many + more else []))
-                    for more in range(16)
-                ])
+                after = rows[many:many + 16]
+                told.append([shown_by_counting(view.stages, differences(rows[many], later)) for later in after])
             for one in range(16):
                 for other in range(16):
                     cut = [one, other] if limit is None else [min(one, limit), min(other, limit)]

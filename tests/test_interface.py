@@ -56,8 +56,29 @@ FUNCTIONS = {
         "keep_without(left, right, left_mark, right_mark, show)",
         "keep_less(left, right, left_mark, right_mark, show)",
     ],
+    "tell_windows": ["tell_windows(first, second, mark, size, slide, aggregate, show)"],
+    "tell_sittings": ["tell_sittings(first, second, mark, gap, aggregate, show)"],
+    "tell_pairs": [
+        "tell_near(first, second, left_mark, right_mark, before, after, combination, show)",
+        "tell_without(first, second, left_mark, right_mark, show)",
+        "tell_less(first, second, left_mark, right_mark, show)",
+    ],
 }
-CLASSES = {"errors": ["FlowError", "PlanError", "NoSuchSource", "LateRow", "NotThere", "MarkGoesBack"]}
+CLASSES = {
+    "errors": ["FlowError", "PlanError", "NoSuchSource", "LateRow", "NotThere", "MarkGoesBack"],
+    "flow": ["Flow"],
+}
+METHODS_OF_FLOW = [
+    "put(self, name, row)",
+    "take(self, name, row)",
+    "move(self, name, mark)",
+    "mark(self)",
+    "mark_of(self, name)",
+    "kept(self)",
+    "state(self)",
+    "fork(self)",
+    "opened(plan, state)",
+]
 
 
 def defined_in(name, kind):
@@ -78,6 +99,15 @@ class Interface(unittest.TestCase):
         for name, classes in CLASSES.items():
             for word in classes:
                 self.assertIn(word, defined_in(name, ast.ClassDef))
+
+    def test_methods_are_defined_in_their_class(self):
+        flow = importlib.import_module("tidefold.flow").Flow
+        self.assertEqual(str(inspect.signature(flow)), "(plan)")
+        for written in METHODS_OF_FLOW:
+            word = written.partition("(")[0]
+            self.assertIn(word, vars(flow))
+            self.assertEqual(f"{word}{inspect.signature(getattr(flow, word))}", written)
+        self.assertIs(type(vars(flow)["opened"]), staticmethod)
 
     def test_the_show_of_no_stages_is_a_value(self):
         self.assertEqual(importlib.import_module("tidefold.shows").ALL, (None, None, None, (), 1, None))

@@ -146,7 +146,7 @@ class KeepWindows(unittest.TestCase):
             slide = drawing.pick(random.randint(1, 20), random.randint(1, 1000))
             size = drawing.pick(slide, random.randint(1, 1000))
             mark = random.randint(-10 ** 10, 10 ** 10)
-            bag = [((row[0], row[1], row[2]), random.randint(1, 10 ** 10)) for row, _ in drawing.bag_near(mark, 8, size)]
+            bag = [(row, random.randint(1, 10 ** 10)) for row, _ in drawing.bag_near(mark, 8, size)]
             view = drawing.narrow_view(3)
             found = called(self, keep_windows, bag, mark, size, slide, "count", view.show)
             self.assertEqual(found, windows_kept(view, bag, mark, size, slide, "count"))

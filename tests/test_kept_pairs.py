@@ -55,14 +55,16 @@ class KeepNear(unittest.TestCase):
         left = rows((0, 1), (4, 2), (5, 3), (9, 4), (10, 5))
         right = rows((3, 6), (7, 7), (8, 8), (11, 9), (12, 10))
         # From the left one needs t + 3 >= 8, from the right one t + 2 >= 10.
-        self.check(left, right, (10, 8), (2, 3, "sum"), ALL, (rows((5, 3), (9, 4), (10, 5)), rows((8, 8), (11, 9), (12, 10))))
-        self.check(left, right, (10, 12), (2, 3, "sum"), ALL, (rows((9, 4), (10, 5)), rows((8, 8), (11, 9), (12, 10))))
-        self.check(left, right, (10, 13), (2, 3, "sum"), ALL, (rows((10, 5)), rows((8, 8), (11, 9), (12, 10))))
+        parts = (2, 3, "sum")
+        self.check(left, right, (10, 8), parts, ALL, (left[2:], right[2:]))
+        self.check(left, right, (10, 12), parts, ALL, (left[3:], right[2:]))
+        self.check(left, right, (10, 13), parts, ALL, (left[4:], right[2:]))
         self.check(left, right, (13, 13), (1, 0, "sum"), ALL, ([], rows((12, 10))))
         self.check(left, right, (13, 13), (0, 1, "sum"), ALL, ([], []))
 
     def test_the_marks_of_both_are_the_same_and_stretches_of_0(self):
-        self.check(rows((4, 1), (5, 1)), rows((4, 2), (5, 2)), (5, 5), (0, 0, "left"), ALL, (rows((5, 1)), rows((5, 2))))
+        left, right = rows((4, 1), (5, 1)), rows((4, 2), (5, 2))
+        self.check(left, right, (5, 5), (0, 0, "left"), ALL, (left[1:], right[1:]))
 
     def test_a_show_that_is_none(self):
         for combination in COMBINATIONS:
@@ -252,10 +254,10 @@ class LikeTheRowsThemselves(unittest.TestCase):
                     first = keep(*bags, *marks, *parts, view.show)
                     self.assertEqual(keep(*first, *later, *parts, view.show), once)
                     for between in ([later[0], marks[1]], [marks[0], later[1]]):
-                        step = keep(*bags, *between, *parts, view.show)
-                        self.assertEqual(keep(*step, *later, *parts, view.show), once, (view.stages, bags, marks, later))
-                        step = keep(*first, *between, *parts, view.show)
-                        self.assertEqual(keep(*step, *later, *parts, view.show), once, (view.stages, bags, marks, later))
+                        for begun in (bags, first):
+                            step = keep(*begun, *between, *parts, view.show)
+                            found = keep(*step, *later, *parts, view.show)
+                            self.assertEqual(found, once, (view.stages, bags, marks, later))
 
 
 if __name__ == "__main__":

@@ -10,6 +10,7 @@ from textwrap import indent
 
 from language_code import Package, package_in
 from language_rules import RULES, faults
+from tidefold.flow import Flow
 from tidefold.marks import plan_mark
 from tidefold.meaning import result
 from tidefold.parsing import parse_plan
@@ -238,6 +239,7 @@ class TheSameOnEachRun(unittest.TestCase):
     def test_the_order_of_sets_and_dicts_makes_no_difference(self):
         lines = """
 from drawn import drawings
+from tidefold.flow import Flow
 from tidefold.marks import plan_mark
 from tidefold.meaning import result
 from tidefold.printing import print_plan, sources
@@ -246,7 +248,13 @@ for drawing in drawings(100, 1):
     plan = drawing.plan(16, 8)
     tables = {name: drawing.bag(6) for name in ("a", "b", "c")}
     marks = {name: drawing.number(-3, 9) for name in tables}
-    print(print_plan(plan), sources(plan), shows(plan), result(plan, tables), plan_mark(plan, tables, marks))
+    print(print_plan(plan), sources(plan), shows(plan), result(plan, tables), plan_mark(plan, tables, marks), end=" ")
+    flow = Flow(plan)
+    for name in sources(plan):
+        for (time, key, value), _ in tables[name]:
+            print(flow.put(name, (abs(time), key, value)), end=" ")
+        print(flow.move(name, abs(marks[name])), end=" ")
+    print(flow.state())
 """
         told = {}
         for seed in ("0", "1", "2"):
@@ -271,6 +279,10 @@ for drawing in drawings(100, 1):
                 self.assertIsInstance(result(plan, tables), list)
                 self.assertIsInstance(shows(plan), list)
                 self.assertIsInstance(plan_mark(plan, tables, {name: 5 for name in tables}), int)
+                flow = Flow(plan)
+                self.assertIsInstance(flow.put("a", (1, "x", 2)), list)
+                self.assertIsInstance(flow.move("a", 5), int)
+                self.assertEqual(flow.fork().state(), flow.state())
             finally:
                 sys.setrecursionlimit(limit)
 
